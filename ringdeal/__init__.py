@@ -1,0 +1,1 @@
+"""Ringdeal: names dealt round a ring to keepers with shares."""
