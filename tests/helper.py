@@ -62,3 +62,59 @@ def small_rings():
     homes = [{}, {0: 1}, {5: 2, 1: 1}, {0: 1, 12: 1, 24: 1}, {9: 3, 2: 1, 4: 2}]
     lists = [[], [0], [3, 0], [5, 1, 4, 0], [24, 12, 0, 36, 7]]
     return itertools.product(plans, homes, lists)
+
+
+def plain_deal(plan, keepers, names):
+    """Points 6 to 8 as they stand."""
+    held = {}
+    for _, name, keeper in sorted(pair_of(plan[0], keepers, name, keeper) for name in names for keeper in keepers):
+        if name not in held and list(held.values()).count(keeper) < plan[1] * keepers[keeper]:
+            held[name] = keeper
+    return [(name, held.get(name)) for name in sorted(names)]
+
+
+def plain_moves(before, after):
+    """Point 10 as it stands."""
+    had, has = dict(before), dict(after)
+    return [(name, had.get(name), has[name]) for name in sorted(has) if had.get(name) != has[name]]
+
+
+def plain_text(keepers, names, deed):
+    """The texts of point 14; None where the deed is done."""
+    word, number = deed[0], deed[1]
+    if word == "come":
+        return "keeper there" if number in keepers else "no share" if deed[2] < 1 else None
+    if word == "leave":
+        return None if number in keepers else "no keeper"
+    if word == "put":
+        return "name there" if number in names else None
+    return None if number in names else "no name"
+
+
+def plain_story(plan, deeds):
+    """Point 14 as it stands: the answers, the deal behind all deeds, the keepers with their shares."""
+    keepers, names, told = {}, [], []
+    for deed in deeds:
+        before = plain_deal(plan, keepers, names)
+        text = plain_text(keepers, names, deed)
+        if text is not None:
+            told.append(text)
+            continue
+        if deed[0] == "where":
+            told.append(dict(before)[deed[1]])
+            continue
+        if deed[0] == "come":
+            keepers = {**keepers, deed[1]: deed[2]}
+        elif deed[0] == "leave":
+            keepers = {keeper: share for keeper, share in keepers.items() if keeper != deed[1]}
+        elif deed[0] == "put":
+            names = names + [deed[1]]
+        else:
+            names = [name for name in names if name != deed[1]]
+        told.append(plain_moves(before, plain_deal(plan, keepers, names)))
+    return told, plain_deal(plan, keepers, names), sorted(keepers.items())
+
+
+def deeds_of(keepers, names):
+    """A story in which these come."""
+    return [("come", keeper, share) for keeper, share in keepers.items()] + [("put", name) for name in names]

@@ -23,6 +23,9 @@ INTERFACE = {
         "names_of": ["rows", "keeper"],
         "moves": ["before", "after"],
     },
+    "judging": {"is_deal": ["plan", "keepers", "names", "rows"]},
+    "story": {"answers": ["plan", "deeds"], "ring_after": ["plan", "deeds"]},
+    "lines": {"shown": ["rows"], "read": ["lines"]},
 }
 
 BUILT_IN = """
@@ -30,6 +33,17 @@ BUILT_IN = """
     isinstance ord repr any all divmod Exception ValueError KeyError IndexError LookupError
     ZeroDivisionError ArithmeticError OverflowError RuntimeError NotImplementedError StopIteration
 """.split()
+
+METHODS = """
+    append clear copy count endswith extend find get index insert isalnum isalpha isdigit islower isspace isupper
+    items join keys ljust lower lstrip partition pop remove replace reverse rfind rjust rpartition rsplit rstrip
+    setdefault split splitlines startswith strip update upper values zfill bit_length
+""".split()
+
+UNUSED = (
+    ast.AsyncFunctionDef, ast.Assert, ast.AugAssign, ast.Await, ast.Delete, ast.DictComp, ast.GeneratorExp,
+    ast.Global, ast.Match, ast.NamedExpr, ast.Nonlocal, ast.SetComp, ast.Starred, ast.With, ast.Yield, ast.YieldFrom,
+)
 
 
 def sources():
@@ -73,6 +87,15 @@ class SourceTest(unittest.TestCase):
                     self.assertNotIsInstance(node, ast.Div)
                     if isinstance(node, ast.Constant):
                         self.assertNotIsInstance(node.value, (float, complex, bytes))
+
+    def test_only_plain_forms_and_methods(self):
+        own = [node.name for _, tree in trees() for node in ast.walk(tree) if isinstance(node, ast.FunctionDef)]
+        for name, tree in trees():
+            for node in ast.walk(tree):
+                with self.subTest(name):
+                    self.assertNotIsInstance(node, UNUSED)
+                    if isinstance(node, ast.Call) and isinstance(node.func, ast.Attribute):
+                        self.assertIn(node.func.attr, METHODS + own)
 
     def test_size_and_signs(self):
         for path, text in sources():
